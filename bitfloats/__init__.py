@@ -1,0 +1,1 @@
+"""Floats of four formats in five roundings, told by their bits."""
