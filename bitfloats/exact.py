@@ -107,6 +107,11 @@ def whole_size(u, mode):
     return whole_quotient(mode, u.negative, u.size, 1 << -u.power)
 
 
-def nearest_whole(u):
-    size = whole_size(u, NEAREST)
+def whole_value(u, mode):
+    """A finite number rounded to a whole number."""
+    size = whole_size(u, mode)
     return -size if u.negative else size
+
+
+def nearest_whole(u):
+    return whole_value(u, NEAREST)

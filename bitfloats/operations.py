@@ -1,7 +1,7 @@
-"""Operations on the bits of numbers: those of op, and fused, scaled, converted, compared."""
+"""Operations on the bits of numbers: those of op, and fused, scaled, converted, whole numbers, compared."""
 
 from bitfloats.exact import counted, finite, is_nothing, negated, packed, plus
-from bitfloats.exact import taken_apart, times, times_power, whole_size
+from bitfloats.exact import taken_apart, times, times_power, whole, whole_size, whole_value
 from bitfloats.formats import infinity_bits, is_nan, is_negative, is_zero, nan_bits, with_sign, without_sign
 from bitfloats.rounding import NEAREST, rounded, whole_quotient
 
@@ -124,6 +124,22 @@ def scaled(kind, mode, a, k):
 
 def converted(from_kind, to_kind, mode, a):
     return packed(to_kind, mode, taken_apart(from_kind, a))
+
+
+def held_whole(kind, mode, width, has_sign, a):
+    """A number as a whole number that is held at the ends of so many bits."""
+    least = -(1 << (width - 1)) if has_sign else 0
+    greatest = least + (1 << width) - 1
+    u = taken_apart(kind, a)
+    if u.nan:
+        return 0
+    if u.infinite:
+        return least if u.negative else greatest
+    return min(max(whole_value(u, mode), least), greatest)
+
+
+def from_whole(kind, mode, z):
+    return packed(kind, mode, whole(z))
 
 
 def place(kind, a):

@@ -20,7 +20,7 @@ NAN = (0xFE00, 0xFFC0, 0xFFC00000, 0xFFF8000000000000)
 ONE = (0x3C00, 0x3F80, 0x3F800000, 0x3FF0000000000000)
 FAR = 9007199254740991
 
-OP, FMA, SCALE, CONV, FN, CMP, TEXT, READ = range(8)
+OP, FMA, SCALE, CONV, FN, CMP, TEXT, READ, CLEAR, TAKE, GET, SUM, DOT, TO_WHOLE, FLOAT = range(15)
 ADD, SUB, MUL, DIV, REST, LESSER, GREATER, SIZE, MINUS, COPY, WHOLE = range(11)
 EXP, LOG, SIN, COS, ROOT, POW = range(6)
 
@@ -29,6 +29,10 @@ EXP, LOG, SIN, COS, ROOT, POW = range(6)
 
 def row(kind, bits):
     return list(bits.to_bytes(BYTES[kind], "little"))
+
+
+def long_row(kind, some):
+    return [byte for bits in some for byte in row(kind, bits)]
 
 
 def counted(numbers):
@@ -115,6 +119,30 @@ def read_call(kind, mode, text):
     return call(READ, (kind, mode), (list(text.encode("latin-1")),))
 
 
+def add_call(kind, a, b=None):
+    return call(TAKE, (kind,), (row(kind, a), [] if b is None else row(kind, b)))
+
+
+def get_call(kind, mode):
+    return call(GET, (kind, mode), ())
+
+
+def sum_call(kind, order, mode, some):
+    return call(SUM, (kind, order, mode), (long_row(kind, some),))
+
+
+def dot_call(kind, order, mode, some, others):
+    return call(DOT, (kind, order, mode), (long_row(kind, some), long_row(kind, others)))
+
+
+def whole_call(kind, mode, bits, sign, a):
+    return call(TO_WHOLE, (kind, mode, bits, sign), (row(kind, a),))
+
+
+def float_call(kind, mode, z):
+    return call(FLOAT, (kind, mode, z), ())
+
+
 def op(kind, number, mode, a, b=0):
     return bits_of(kind, ask(op_call(kind, number, mode, a, b)))
 
@@ -133,6 +161,18 @@ def conv(kind, to, mode, a):
 
 def fn(kind, number, mode, a, b=None):
     return bits_of(kind, ask(fn_call(kind, number, mode, a, b)))
+
+
+def summed(kind, order, mode, some):
+    return bits_of(kind, ask(sum_call(kind, order, mode, some)))
+
+
+def dotted(kind, order, mode, some, others):
+    return bits_of(kind, ask(dot_call(kind, order, mode, some, others)))
+
+
+def floated(kind, mode, z):
+    return bits_of(kind, ask(float_call(kind, mode, z)))
 
 
 def read(kind, mode, text):
@@ -252,6 +292,72 @@ def moved(kind, to, mode, a):
     if is_inf(kind, a):
         return signed(to, minus, INFINITY[to])
     return round_to(to, mode, value(kind, a), minus)
+
+
+def wanted_sum(kind, mode, a, b):
+    if is_nan(kind, a) or is_nan(kind, b):
+        return NAN[kind]
+    if is_inf(kind, a) and is_inf(kind, b):
+        return a if a == b else NAN[kind]
+    if is_inf(kind, a) or is_inf(kind, b):
+        return a if is_inf(kind, a) else b
+    if is_zero(kind, a) and is_zero(kind, b) and a == b:
+        return a
+    return round_to(kind, mode, value(kind, a) + value(kind, b), mode == 1)
+
+
+def wanted_fused(kind, mode, a, b, c):
+    if any(is_nan(kind, one) for one in (a, b, c)):
+        return NAN[kind]
+    minus = negative(kind, a) != negative(kind, b)
+    if is_inf(kind, a) or is_inf(kind, b):
+        if is_zero(kind, a) or is_zero(kind, b) or (is_inf(kind, c) and negative(kind, c) != minus):
+            return NAN[kind]
+        return signed(kind, minus, INFINITY[kind])
+    if is_inf(kind, c):
+        return c
+    exact = value(kind, a) * value(kind, b)
+    if exact == 0 and is_zero(kind, c) and minus == negative(kind, c):
+        return c
+    return round_to(kind, mode, exact + value(kind, c), mode == 1)
+
+
+def wanted_exact(kind, mode, terms):
+    """What is got of an exact sum; a term is a kind and one number of it, or a kind and the two of a product."""
+    total = Fraction(0)
+    signs = set()
+    for term in terms:
+        of = term[0]
+        some = term[1:]
+        if any(is_nan(of, a) for a in some):
+            return NAN[kind]
+        minus = sum(negative(of, a) for a in some) % 2 == 1
+        if any(is_inf(of, a) for a in some):
+            if any(is_zero(of, a) for a in some):
+                return NAN[kind]
+            signs.add(minus)
+        else:
+            total += value(of, some[0]) * (value(of, some[1]) if len(some) == 2 else 1)
+    if len(signs) == 2:
+        return NAN[kind]
+    if signs:
+        return signed(kind, signs.pop(), INFINITY[kind])
+    return round_to(kind, mode, total, mode == 1)
+
+
+def to_whole(mode, x):
+    """A Fraction as a whole number by the mode."""
+    down = x.numerator // x.denominator
+    if x == down or mode == 1:
+        return down
+    if mode == 2:
+        return down + 1
+    if mode == 3:
+        return down if x > 0 else down + 1
+    if mode == 4 and x - down == Fraction(1, 2):
+        return down + 1 if x > 0 else down
+    # Python's round of a Fraction is to nearest, of two the even.
+    return round(x)
 
 
 # Numbers to try

@@ -87,7 +87,21 @@ class Language(unittest.TestCase):
                             for name in self.bound(inner):
                                 self.assertNotIn(name, top, (path.name, node.name))
                 if isinstance(node, ast.Call) and isinstance(node.func, ast.Attribute):
-                    self.assertIn(node.func.attr, METHODS, path.name)
+                    self.assertIn(node.func.attr, METHODS + self.own_methods(), path.name)
+
+    def own_methods(self):
+        classes = [node for path, tree in trees() for node in tree.body if isinstance(node, ast.ClassDef)]
+        return [one.name for node in classes for one in node.body if isinstance(one, ast.FunctionDef)]
+
+    def test_methods_and_values_of_objects(self):
+        """Their names are free ones, and none is a method here and a value there."""
+        methods = [name for name in self.own_methods() if name != "__init__"]
+        values = {node.attr for path, tree in trees() for node in ast.walk(tree)
+                  if isinstance(node, ast.Attribute) and isinstance(node.ctx, ast.Store)}
+        self.assertEqual(values & set(methods), set())
+        for name in values | set(methods):
+            for one in (0, "", [], (), {}, set(), b""):
+                self.assertFalse(hasattr(one, name), name)
 
     def bound(self, node):
         if isinstance(node, ast.Name) and isinstance(node.ctx, ast.Store):

@@ -6,18 +6,6 @@ import unittest
 from tests import helper as h
 
 
-def wanted_sum(kind, mode, a, b):
-    if h.is_nan(kind, a) or h.is_nan(kind, b):
-        return h.NAN[kind]
-    if h.is_inf(kind, a) and h.is_inf(kind, b):
-        return a if a == b else h.NAN[kind]
-    if h.is_inf(kind, a) or h.is_inf(kind, b):
-        return a if h.is_inf(kind, a) else b
-    if h.is_zero(kind, a) and h.is_zero(kind, b) and a == b:
-        return a
-    return h.round_to(kind, mode, h.value(kind, a) + h.value(kind, b), mode == 1)
-
-
 def wanted_product(kind, mode, a, b):
     minus = h.negative(kind, a) != h.negative(kind, b)
     if h.is_nan(kind, a) or h.is_nan(kind, b):
@@ -57,30 +45,16 @@ def wanted_whole(kind, mode, a):
         return h.NAN[kind]
     if h.is_inf(kind, a):
         return a
-    x = h.value(kind, a)
-    down = x.numerator // x.denominator
-    if mode == 0:
-        z = round(x)
-    elif mode == 1 or x == down:
-        z = down
-    elif mode == 2:
-        z = down + 1
-    elif mode == 3:
-        z = down if x > 0 else down + 1
-    elif x - down == h.Fraction(1, 2):
-        z = down + 1 if x > 0 else down
-    else:
-        z = round(x)
-    return h.round_to(kind, 0, h.Fraction(z), h.negative(kind, a))
+    return h.round_to(kind, 0, h.Fraction(h.to_whole(mode, h.value(kind, a))), h.negative(kind, a))
 
 
-WANTED = {h.ADD: wanted_sum, h.MUL: wanted_product, h.DIV: wanted_quotient, h.REST: wanted_rest}
+WANTED = {h.ADD: h.wanted_sum, h.MUL: wanted_product, h.DIV: wanted_quotient, h.REST: wanted_rest}
 
 
 def wanted(kind, number, mode, a, b):
     if number == h.SUB:
         flipped = b if h.is_nan(kind, b) else b ^ h.SIGN[kind]
-        return wanted_sum(kind, mode, a, flipped)
+        return h.wanted_sum(kind, mode, a, flipped)
     return WANTED[number](kind, mode, a, b)
 
 
